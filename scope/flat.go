@@ -26,20 +26,19 @@ func flat(root api.Section) []api.Sect {
 	return l
 }
 
+// copyItems copies items whole; empty lists become nil, so that they are told like lists that are not there.
 func copyItems(l []api.Item) []api.Item {
-	var made []api.Item
-	for _, item := range l {
-		item.Expr.Args = copyArgs(item.Expr.Args)
-		made = append(made, item)
+	made := append([]api.Item(nil), l...)
+	for n := range made {
+		made[n].Expr.Args = copyArgs(made[n].Expr.Args)
 	}
 	return made
 }
 
 func copyArgs(l []api.Expr) []api.Expr {
-	var made []api.Expr
-	for _, x := range l {
-		x.Args = copyArgs(x.Args)
-		made = append(made, x)
+	made := append([]api.Expr(nil), l...)
+	for n := range made {
+		made[n].Args = copyArgs(made[n].Args)
 	}
 	return made
 }
