@@ -166,6 +166,16 @@ func TestReads(t *testing.T) {
 		"/cars:4.twice", "/.fee /cars:4.km", "/cars:3.less", "/.total /cars:3.twice")
 }
 
+// How many rows there are is no cell.
+func TestReadsOfRowsAlone(t *testing.T) {
+	x := retOf(t, "return r { line many : amount 0 up = rows ( k ) ; check some = rows ( k ) > 1 ; section k max 9 { field a : amount 0 ; } }")
+	x.add(1, 0, "/", "/")
+	x.each("Reads", deps.Reads, "/.many", "", "/.some", "")
+	x.each("Users", deps.Users, "/k:1.a", "", "/.many", "")
+	x.want("Dirty", deps.Dirty(x.Store, x.cells("/k:1.a /k:2.a")...), "")
+	x.want("Over", deps.Over(x.Store, root, 1), "/.many /.some")
+}
+
 // What stands around, in the row, and within it is told in the order of rows, whatever the order in the formula and of the sections.
 func TestReadsInOrder(t *testing.T) {
 	x := retOf(t, `return r { field a : amount 0 ; section s max 9 { section v max 9 { field e : amount 0 ; field d : amount 0 ; }
